@@ -1,6 +1,9 @@
 package track
 
-import "kreisel/api"
+import (
+	"kreisel/api"
+	"kreisel/span"
+)
 
 // A limited span has to lie in another one.
 type limited struct{ told, in api.Span }
@@ -8,7 +11,7 @@ type limited struct{ told, in api.Span }
 // Check returns ErrTrack unless a track is valid (P1.1).
 func Check(t api.Track) api.Errno {
 	n := len(t.Stretches)
-	if !within(api.Span{Lo: 1, Hi: api.MaxStretches}, n) || right(t.Stretches) < n {
+	if !span.Within(api.Span{Lo: 1, Hi: api.MaxStretches}, n) || right(t.Stretches) < n {
 		return api.ErrTrack
 	}
 	return api.OK
@@ -24,7 +27,7 @@ stretches:
 			break stretches
 		}
 		for _, l := range limits(s) {
-			if !fits(l.told, l.in) {
+			if !span.Fits(l.told, l.in) {
 				break stretches
 			}
 		}
@@ -36,10 +39,10 @@ stretches:
 // limits returns what is told of any stretch, straight or not, and where it has to be.
 func limits(s api.Stretch) [4]limited {
 	return [...]limited{
-		{one(s.Id), api.Span{Lo: 0, Hi: api.MaxId}},
+		{span.One(s.Id), span.UpTo(api.MaxId)},
 		{s.Long, api.Span{Lo: 1, Hi: api.MaxLong}},
-		{s.Fall, api.Span{Lo: 0, Hi: api.MaxFall}},
-		{one(s.Wall), api.Span{Lo: 0, Hi: api.MaxWall}},
+		{s.Fall, span.UpTo(api.MaxFall)},
+		{span.One(s.Wall), span.UpTo(api.MaxWall)},
 	}
 }
 
@@ -49,17 +52,17 @@ func sided(s api.Stretch) bool {
 	case api.SideNone:
 		return s.Radius == api.Span{}
 	case api.SideLeft, api.SideRight:
-		return fits(s.Radius, api.Span{Lo: api.MinRadius, Hi: api.MaxRadius})
+		return span.Fits(s.Radius, api.Span{Lo: api.MinRadius, Hi: api.MaxRadius})
 	}
 	return false
 }
 
 // stands tells whether a spot is valid on a valid track.
 func stands(t api.Track, s api.Spot) bool {
-	if !within(api.Span{Lo: 0, Hi: len(t.Stretches) - 1}, s.Stretch) {
+	if !span.Within(span.UpTo(len(t.Stretches)-1), s.Stretch) {
 		return false
 	}
-	return fits(s.Off, api.Span{Lo: 0, Hi: t.Stretches[s.Stretch].Long.Lo - 1})
+	return span.Fits(s.Off, span.UpTo(t.Stretches[s.Stretch].Long.Lo-1))
 }
 
 // agreed tells whether a list is one of measures of a valid track.
@@ -67,12 +70,12 @@ func agreed(t api.Track, list []api.Measure) bool {
 	if len(list) > api.MaxMeasures {
 		return false
 	}
-	marks := api.Span{Lo: 0, Hi: len(t.Stretches)}
+	marks := span.UpTo(len(t.Stretches))
 	for _, m := range list {
-		if !told(m.Kind) || !within(marks, m.From, m.To) || m.From >= m.To {
+		if !told(m.Kind) || !span.Within(marks, m.From, m.To) || m.From >= m.To {
 			return false
 		}
-		if !fits(m.Value, api.Span{Lo: 0, Hi: api.MaxRun}) {
+		if !span.Fits(m.Value, span.UpTo(api.MaxRun)) {
 			return false
 		}
 	}

@@ -4,6 +4,7 @@ import (
 	"iter"
 
 	"kreisel/api"
+	"kreisel/span"
 )
 
 // A kind is what measures of a kind tell of: which span of a stretch.
@@ -38,7 +39,7 @@ func (c course) marks() iter.Seq2[int, api.Span] {
 			if !yield(i, at) {
 				return
 			}
-			at = plus(at, c.Stretches[i].Long)
+			at = span.Plus(at, c.Stretches[i].Long)
 		}
 		yield(len(c.Stretches), at)
 	}
@@ -57,7 +58,7 @@ func (c course) places() []api.Span {
 func (c course) between(k kind, from, to int) api.Span {
 	all := api.Span{}
 	for i := range to - from {
-		all = plus(all, *k.of(&c.Stretches[from+i]))
+		all = span.Plus(all, *k.of(&c.Stretches[from+i]))
 	}
 	return all
 }
@@ -66,7 +67,7 @@ func (c course) between(k kind, from, to int) api.Span {
 func (c course) way(from, to int) api.Span {
 	long := kinds()[byLong]
 	if from > to {
-		return minus(api.Span{}, c.between(long, to, from))
+		return span.Minus(api.Span{}, c.between(long, to, from))
 	}
 	return c.between(long, from, to)
 }

@@ -5,6 +5,7 @@ import (
 	"slices"
 
 	"kreisel/api"
+	"kreisel/span"
 )
 
 // Marks returns all marks (P1.1).
@@ -20,7 +21,7 @@ func Drop(t api.Track, from, to int) (long, fall api.Span, e api.Errno) {
 	if e := Check(t); e != api.OK {
 		return api.Span{}, api.Span{}, e
 	}
-	if !within(api.Span{Lo: 0, Hi: len(t.Stretches)}, from, to) || from > to {
+	if !span.Within(span.UpTo(len(t.Stretches)), from, to) || from > to {
 		return api.Span{}, api.Span{}, api.ErrArg
 	}
 	k := kinds()
@@ -33,7 +34,7 @@ func Place(t api.Track, at int) ([]int, api.Errno) {
 	if e := Check(t); e != api.OK {
 		return nil, e
 	}
-	if !within(api.Span{Lo: 0, Hi: api.MaxRun}, at) {
+	if !span.Within(span.UpTo(api.MaxRun), at) {
 		return nil, api.ErrArg
 	}
 	marks := course{t}.places()
@@ -48,7 +49,7 @@ func Slope(t api.Track, i int) (api.Span, api.Errno) {
 	if e := Check(t); e != api.OK {
 		return api.Span{}, e
 	}
-	if !within(api.Span{Lo: 0, Hi: len(t.Stretches) - 1}, i) {
+	if !span.Within(span.UpTo(len(t.Stretches)-1), i) {
 		return api.Span{}, api.ErrArg
 	}
 	s := t.Stretches[i]
@@ -91,7 +92,7 @@ func Apart(t api.Track, a, b api.Spot) (api.Span, api.Errno) {
 	if !stands(t, a) || !stands(t, b) {
 		return api.Span{}, api.ErrSpot
 	}
-	return plus(course{t}.way(a.Stretch, b.Stretch), minus(b.Off, a.Off)), api.OK
+	return span.Plus(course{t}.way(a.Stretch, b.Stretch), span.Minus(b.Off, a.Off)), api.OK
 }
 
 // Join returns two runs as one (P1.6).

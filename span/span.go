@@ -1,0 +1,32 @@
+// Package span contains what all layers do with spans of numbers.
+package span
+
+import "kreisel/api"
+
+// One returns the span of just one number.
+func One(number int) api.Span { return api.Span{Lo: number, Hi: number} }
+
+// UpTo returns the span of all numbers from 0 to another one.
+func UpTo(number int) api.Span { return api.Span{Lo: 0, Hi: number} }
+
+// Within tells whether all numbers are in a span.
+func Within(s api.Span, numbers ...int) bool {
+	for _, n := range numbers {
+		if n < s.Lo || n > s.Hi {
+			return false
+		}
+	}
+	return true
+}
+
+// Fits tells whether a span has its ends in order, and both of them in another span.
+func Fits(s, in api.Span) bool { return s.Lo <= s.Hi && Within(in, s.Lo, s.Hi) }
+
+// Both returns the span of all numbers that are in two spans; its Lo is above its Hi if there is none.
+func Both(a, b api.Span) api.Span { return api.Span{Lo: max(a.Lo, b.Lo), Hi: min(a.Hi, b.Hi)} }
+
+// Plus returns the span of sums of a number of each span.
+func Plus(a, b api.Span) api.Span { return api.Span{Lo: a.Lo + b.Lo, Hi: a.Hi + b.Hi} }
+
+// Minus returns the span of differences of a number of each span.
+func Minus(a, b api.Span) api.Span { return api.Span{Lo: a.Lo - b.Hi, Hi: a.Hi - b.Lo} }

@@ -1,0 +1,50 @@
+package span_test
+
+import (
+	"math"
+	"testing"
+
+	"kreisel/api"
+	"kreisel/span"
+)
+
+func of(lo, hi int) api.Span { return api.Span{Lo: lo, Hi: hi} }
+
+func TestWithin(t *testing.T) {
+	for i, x := range []struct {
+		s       api.Span
+		numbers []int
+		want    bool
+	}{
+		{of(2, 5), nil, true}, {of(2, 5), []int{2, 5, 3}, true}, {of(2, 5), []int{1}, false}, {of(2, 5), []int{6}, false}, {of(2, 5), []int{3, 6, 4}, false}, {of(2, 5), []int{3, 4, 1}, false}, {of(5, 2), []int{3}, false}, {of(0, 9), []int{math.MinInt}, false}, {of(0, 9), []int{math.MaxInt}, false},
+	} {
+		if got := span.Within(x.s, x.numbers...); got != x.want {
+			t.Error(i, got)
+		}
+	}
+}
+
+func TestFits(t *testing.T) {
+	for i, x := range []struct {
+		s, in api.Span
+		want  bool
+	}{
+		{of(2, 5), of(2, 5), true}, {of(3, 3), of(2, 5), true}, {of(1, 5), of(2, 5), false}, {of(2, 6), of(2, 5), false}, {of(4, 3), of(2, 5), false}, {of(math.MinInt, math.MaxInt), of(2, 5), false}, {of(math.MaxInt, math.MinInt), of(2, 5), false},
+	} {
+		if got := span.Fits(x.s, x.in); got != x.want {
+			t.Error(i, got)
+		}
+	}
+}
+
+func TestSpansOfSpans(t *testing.T) {
+	for i, x := range []struct{ got, want api.Span }{
+		{span.One(7), of(7, 7)}, {span.UpTo(7), of(0, 7)},
+		{span.Plus(of(1, 2), of(10, 30)), of(11, 32)}, {span.Minus(of(1, 2), of(10, 30)), of(-29, -8)},
+		{span.Both(of(1, 5), of(3, 9)), of(3, 5)}, {span.Both(of(3, 9), of(1, 5)), of(3, 5)}, {span.Both(of(1, 9), of(3, 5)), of(3, 5)}, {span.Both(of(1, 2), of(2, 3)), of(2, 2)}, {span.Both(of(1, 2), of(4, 5)), of(4, 2)},
+	} {
+		if x.got != x.want {
+			t.Error(i, x.got, x.want)
+		}
+	}
+}
