@@ -5,6 +5,7 @@ import (
 	"slices"
 
 	"kreisel/api"
+	"kreisel/span"
 )
 
 // A coat is a valid cover at work.
@@ -23,21 +24,17 @@ const (
 	truthCount
 )
 
-func low(s api.Span) int { return s.Lo }
-
-func high(s api.Span) int { return s.Hi }
-
 // truths yields the truth in which all ice is the thinnest, and the one in which it is the thickest. More of what it is made of never makes ice thinner, nor does less of what takes it away, so in all other truths it is between these two, on all stretches.
 func (c coat) truths() iter.Seq2[int, truth] {
 	return func(yield func(int, truth) bool) {
 		if yield(atWorst, c.worst()) {
-			yield(atBest, truth{c, high, low})
+			yield(atBest, truth{c, span.High, span.Low})
 		}
 	}
 }
 
 // worst returns the truth in which all ice is the thinnest.
-func (c coat) worst() truth { return truth{c, low, high} }
+func (c coat) worst() truth { return truth{c, span.Low, span.High} }
 
 // A rule is how thick ice has to be, and in which hours.
 type rule struct {

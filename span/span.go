@@ -22,6 +22,25 @@ func Within(s api.Span, numbers ...int) bool {
 // Fits tells whether a span has its ends in order, and both of them in another span.
 func Fits(s, in api.Span) bool { return s.Lo <= s.Hi && Within(in, s.Lo, s.Hi) }
 
+// A Limit is a span that is told, and another one in which it has to lie.
+type Limit struct{ Told, In api.Span }
+
+// Valid tells whether all spans fit where they have to lie.
+func Valid(limits ...Limit) bool {
+	for _, l := range limits {
+		if !Fits(l.Told, l.In) {
+			return false
+		}
+	}
+	return true
+}
+
+// Low returns the least number of a span.
+func Low(s api.Span) int { return s.Lo }
+
+// High returns the greatest number of a span.
+func High(s api.Span) int { return s.Hi }
+
 // Both returns the span of all numbers that are in two spans; its Lo is above its Hi if there is none.
 func Both(a, b api.Span) api.Span { return api.Span{Lo: max(a.Lo, b.Lo), Hi: min(a.Hi, b.Hi)} }
 

@@ -37,6 +37,26 @@ func TestFits(t *testing.T) {
 	}
 }
 
+func TestValid(t *testing.T) {
+	right, wrong := span.Limit{Told: of(2, 5), In: of(1, 5)}, span.Limit{Told: of(2, 5), In: of(1, 4)}
+	for i, x := range []struct {
+		limits []span.Limit
+		want   bool
+	}{
+		{nil, true}, {[]span.Limit{right}, true}, {[]span.Limit{right, right}, true}, {[]span.Limit{wrong}, false}, {[]span.Limit{wrong, right}, false}, {[]span.Limit{right, wrong}, false}, {[]span.Limit{right, {Told: of(3, 2), In: of(1, 5)}}, false},
+	} {
+		if got := span.Valid(x.limits...); got != x.want {
+			t.Error(i, got)
+		}
+	}
+}
+
+func TestEnds(t *testing.T) {
+	if s := of(-3, 8); span.Low(s) != -3 || span.High(s) != 8 {
+		t.Error(span.Low(s), span.High(s))
+	}
+}
+
 func TestSpansOfSpans(t *testing.T) {
 	for i, x := range []struct{ got, want api.Span }{
 		{span.One(7), of(7, 7)}, {span.UpTo(7), of(0, 7)},

@@ -5,9 +5,6 @@ import (
 	"kreisel/span"
 )
 
-// A limited span has to lie in another one.
-type limited struct{ told, in api.Span }
-
 // Check returns ErrTrack unless a track is valid (P1.1).
 func Check(t api.Track) api.Errno {
 	n := len(t.Stretches)
@@ -27,7 +24,7 @@ stretches:
 			break stretches
 		}
 		for _, l := range limits(s) {
-			if !span.Fits(l.told, l.in) {
+			if !span.Fits(l.Told, l.In) {
 				break stretches
 			}
 		}
@@ -37,12 +34,12 @@ stretches:
 }
 
 // limits returns what is told of any stretch, straight or not, and where it has to be.
-func limits(s api.Stretch) [4]limited {
-	return [...]limited{
-		{span.One(s.Id), span.UpTo(api.MaxId)},
-		{s.Long, api.Span{Lo: 1, Hi: api.MaxLong}},
-		{s.Fall, span.UpTo(api.MaxFall)},
-		{span.One(s.Wall), span.UpTo(api.MaxWall)},
+func limits(s api.Stretch) [4]span.Limit {
+	return [...]span.Limit{
+		{Told: span.One(s.Id), In: span.UpTo(api.MaxId)},
+		{Told: s.Long, In: api.Span{Lo: 1, Hi: api.MaxLong}},
+		{Told: s.Fall, In: span.UpTo(api.MaxFall)},
+		{Told: span.One(s.Wall), In: span.UpTo(api.MaxWall)},
 	}
 }
 
