@@ -53,6 +53,6 @@ func limits(s api.Sled) []span.Limit {
 		{Told: s.Rub, In: span.UpTo(api.MaxRub)},
 		{Told: s.Drag, In: span.UpTo(api.MaxDrag)},
 		{Told: s.Weight, In: api.Span{Lo: api.MinMass, Hi: api.MaxMass}},
-		{Told: s.Steer, In: api.Span{Lo: -api.MaxSteer, Hi: api.MaxSteer}},
+		{Told: s.Steer, In: span.Around(api.MaxSteer)},
 	}
 }

@@ -9,6 +9,9 @@ func One(number int) api.Span { return api.Span{Lo: number, Hi: number} }
 // UpTo returns the span of all numbers from 0 to another one.
 func UpTo(number int) api.Span { return api.Span{Lo: 0, Hi: number} }
 
+// Around returns the span of all numbers that differ from 0 by at most another one.
+func Around(number int) api.Span { return api.Span{Lo: -number, Hi: number} }
+
 // Within tells whether all numbers are in a span.
 func Within(s api.Span, numbers ...int) bool {
 	for _, n := range numbers {

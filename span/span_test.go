@@ -59,7 +59,7 @@ func TestEnds(t *testing.T) {
 
 func TestSpansOfSpans(t *testing.T) {
 	for i, x := range []struct{ got, want api.Span }{
-		{span.One(7), of(7, 7)}, {span.UpTo(7), of(0, 7)},
+		{span.One(7), of(7, 7)}, {span.UpTo(7), of(0, 7)}, {span.Around(7), of(-7, 7)}, {span.Around(0), of(0, 0)},
 		{span.Plus(of(1, 2), of(10, 30)), of(11, 32)}, {span.Minus(of(1, 2), of(10, 30)), of(-29, -8)},
 		{span.Both(of(1, 5), of(3, 9)), of(3, 5)}, {span.Both(of(3, 9), of(1, 5)), of(3, 5)}, {span.Both(of(1, 9), of(3, 5)), of(3, 5)}, {span.Both(of(1, 2), of(2, 3)), of(2, 2)}, {span.Both(of(1, 2), of(4, 5)), of(4, 2)},
 	} {
