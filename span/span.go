@@ -52,3 +52,25 @@ func Plus(a, b api.Span) api.Span { return api.Span{Lo: a.Lo + b.Lo, Hi: a.Hi + 
 
 // Minus returns the span of differences of a number of each span.
 func Minus(a, b api.Span) api.Span { return api.Span{Lo: a.Lo - b.Hi, Hi: a.Hi - b.Lo} }
+
+// Whole returns the span from the least number of some spans to the greatest one; there has to be one at least.
+func Whole(list ...api.Span) api.Span {
+	all := list[0]
+	for _, s := range list[1:] {
+		all = api.Span{Lo: min(all.Lo, s.Lo), Hi: max(all.Hi, s.Hi)}
+	}
+	return all
+}
+
+// First returns the first number of which something is so, from one number on and before another one, or the latter if there is none. If it is so of a number it has to be so of all behind it.
+func First[N ~int](from, to N, so func(number N) bool) N {
+	for from < to {
+		middle := from + (to-from)/2
+		if so(middle) {
+			to = middle
+		} else {
+			from = middle + 1
+		}
+	}
+	return from
+}

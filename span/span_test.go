@@ -68,3 +68,34 @@ func TestSpansOfSpans(t *testing.T) {
 		}
 	}
 }
+
+func TestWhole(t *testing.T) {
+	for i, x := range []struct {
+		list []api.Span
+		want api.Span
+	}{
+		{[]api.Span{of(2, 5)}, of(2, 5)}, {[]api.Span{of(2, 5), of(3, 4)}, of(2, 5)}, {[]api.Span{of(3, 4), of(2, 5)}, of(2, 5)}, {[]api.Span{of(7, 9), of(-3, -1), of(4, 5)}, of(-3, 9)},
+	} {
+		if got := span.Whole(x.list...); got != x.want {
+			t.Error(i, got)
+		}
+	}
+}
+
+func TestFirst(t *testing.T) {
+	for from := -3; from < 4; from++ {
+		for to := from; to < 9; to++ {
+			for least := -5; least < 12; least++ {
+				got := span.First(from, to, func(n int) bool {
+					if n < from || n >= to {
+						t.Error("asked of", n, "from", from, "to", to)
+					}
+					return n >= least
+				})
+				if want := min(to, max(from, least)); got != want {
+					t.Error(from, to, least, got, want)
+				}
+			}
+		}
+	}
+}
