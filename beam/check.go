@@ -14,9 +14,6 @@ type line struct{ api.Line }
 // day returns all times.
 func day() api.Span { return span.UpTo(api.MaxClock) }
 
-// indices returns all indices of a list.
-func indices[T any](list []T) api.Span { return span.UpTo(len(list) - 1) }
-
 // A demand is one of those that a line has to meet.
 type demand struct {
 	met func(l line) bool
@@ -33,7 +30,7 @@ func (l line) bounded() bool {
 		span.Limit{Told: span.One(l.Fast), In: api.Span{Lo: 1, Hi: api.MaxFast}},
 		span.Limit{Told: span.One(len(l.Clocks)), In: api.Span{Lo: 1, Hi: api.MaxClocks}},
 		span.Limit{Told: span.One(len(l.Beams)), In: api.Span{Lo: 1, Hi: api.MaxBeams}},
-		span.Limit{Told: span.One(l.Finish), In: indices(l.Beams)},
+		span.Limit{Told: span.One(l.Finish), In: span.Indices(l.Beams)},
 		span.Limit{Told: span.One(l.Fakes), In: span.UpTo(api.MaxFakes)},
 		span.Limit{Told: span.One(l.Misses), In: span.UpTo(api.MaxMisses)},
 	)
@@ -79,7 +76,7 @@ func compared(c api.Clock) bool {
 func (l line) placed() bool {
 	for i := range len(l.Beams) {
 		way, e := l.way(i)
-		if e != api.OK || way.Lo < 1 || !span.Within(indices(l.Clocks), l.Beams[i].Clock) {
+		if e != api.OK || way.Lo < 1 || !span.Within(span.Indices(l.Clocks), l.Beams[i].Clock) {
 			return false
 		}
 	}
@@ -96,7 +93,7 @@ func (l line) way(beam int) (api.Span, api.Errno) {
 
 // tells tells whether a signal may be one of a valid line.
 func (l line) tells(s api.Signal) bool {
-	return span.Within(indices(l.Beams), s.Beam) && span.Within(day(), s.Read)
+	return span.Within(span.Indices(l.Beams), s.Beam) && span.Within(day(), s.Read)
 }
 
 // rides tells whether a ride is valid on a valid line.

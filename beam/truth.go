@@ -55,7 +55,7 @@ func follow(l api.Line, r api.Ride, beams ...int) (search, api.Errno) {
 	if !s.rides(r) {
 		return search{}, api.ErrRide
 	}
-	if !span.Within(indices(l.Beams), beams...) {
+	if !span.Within(span.Indices(l.Beams), beams...) {
 		return search{}, api.ErrArg
 	}
 	s.needs, s.heard = s.listen()

@@ -29,19 +29,16 @@ func hold(r api.Race) (contest, api.Errno) {
 	return contest{r, times}, api.OK
 }
 
-// indices returns all indices of a list.
-func indices[T any](list []T) api.Span { return span.UpTo(len(list) - 1) }
-
 // has tells whether they are a heat and a sled.
 func (c contest) has(heat, sled int) bool {
-	return span.Within(indices(c.Heats), heat) && span.Within(indices(c.Sleds), sled)
+	return span.Within(span.Indices(c.Heats), heat) && span.Within(span.Indices(c.Sleds), sled)
 }
 
 // entered tells whether all of a race is valid, but for its heats.
 func entered(r api.Race) bool {
 	return span.Within(api.Span{Lo: 1, Hi: api.MaxStarters}, len(r.Sleds)) &&
 		span.Within(span.UpTo(api.MaxId), r.Sleds...) && slices.IsSorted(r.Sleds) && differ(r.Sleds) &&
-		len(r.Draw) == len(r.Sleds) && span.Within(indices(r.Sleds), r.Draw...) && differ(r.Draw) &&
+		len(r.Draw) == len(r.Sleds) && span.Within(span.Indices(r.Sleds), r.Draw...) && differ(r.Draw) &&
 		span.Within(span.UpTo(api.MaxStarters), r.Turn)
 }
 

@@ -30,13 +30,13 @@ func conditions() [api.Norms]condition {
 	}
 }
 
-func (i inspection) knownTotal(n api.Norm) uint8 { return known(n.Total, i.totals...) }
+func (i inspection) knownTotal(n api.Norm) uint8 { return span.Known(n.Total, i.totals...) }
 
 func (i inspection) knownAdded(n api.Norm) uint8 {
-	return known(span.UpTo(n.Added), span.One(i.Added))
+	return span.Known(span.UpTo(n.Added), span.One(i.Added))
 }
 
-func (i inspection) knownHard(n api.Norm) uint8 { return known(n.Hard, i.hard) }
+func (i inspection) knownHard(n api.Norm) uint8 { return span.Known(n.Hard, i.hard) }
 
 func (i inspection) knownStamp(n api.Norm) uint8 {
 	if n.Stamp && !i.Stamp {
@@ -49,29 +49,9 @@ func (i inspection) knownStamp(n api.Norm) uint8 {
 func (i inspection) knownWarm(n api.Norm) uint8 {
 	least := uint8(api.KnownYes)
 	for _, s := range warmer(i.Gear) {
-		least = min(least, known(api.Span{Lo: math.MinInt, Hi: n.Warm}, s))
+		least = min(least, span.Known(api.Span{Lo: math.MinInt, Hi: n.Warm}, s))
 	}
 	return least
-}
-
-// known returns what is known of a number being in a span, if it is in one of some others.
-func known(in api.Span, others ...api.Span) uint8 {
-	inside, outside := 0, 0
-	for _, s := range others {
-		switch both := span.Both(s, in); {
-		case both == s:
-			inside++
-		case both.Lo > both.Hi:
-			outside++
-		}
-	}
-	switch len(others) {
-	case inside:
-		return api.KnownYes
-	case outside:
-		return api.KnownNo
-	}
-	return api.KnownOpen
 }
 
 // warmer returns by how much warmer than the base the runners may be.

@@ -9,6 +9,9 @@ func One(number int) api.Span { return api.Span{Lo: number, Hi: number} }
 // UpTo returns the span of all numbers from 0 to another one.
 func UpTo(number int) api.Span { return api.Span{Lo: 0, Hi: number} }
 
+// Indices returns the span of all indices of a list.
+func Indices[T any](list []T) api.Span { return UpTo(len(list) - 1) }
+
 // Around returns the span of all numbers that differ from 0 by at most another one.
 func Around(number int) api.Span { return api.Span{Lo: -number, Hi: number} }
 
@@ -60,6 +63,26 @@ func Whole(list ...api.Span) api.Span {
 		all = api.Span{Lo: min(all.Lo, s.Lo), Hi: max(all.Hi, s.Hi)}
 	}
 	return all
+}
+
+// Known returns what is known of a number being in a span, if it is in one of some others.
+func Known(in api.Span, others ...api.Span) uint8 {
+	inside, outside := 0, 0
+	for _, s := range others {
+		switch both := Both(s, in); {
+		case both == s:
+			inside++
+		case both.Lo > both.Hi:
+			outside++
+		}
+	}
+	switch len(others) {
+	case inside:
+		return api.KnownYes
+	case outside:
+		return api.KnownNo
+	}
+	return api.KnownOpen
 }
 
 // First returns the first number of which something is so, from one number on and before another one, or the latter if there is none. If it is so of a number it has to be so of all behind it.

@@ -99,3 +99,32 @@ func TestFirst(t *testing.T) {
 		}
 	}
 }
+
+func TestIndices(t *testing.T) {
+	for i, x := range []struct {
+		list []string
+		want api.Span
+	}{
+		{nil, of(0, -1)}, {[]string{}, of(0, -1)}, {[]string{"a"}, of(0, 0)}, {[]string{"a", "b", "a"}, of(0, 2)},
+	} {
+		if got := span.Indices(x.list); got != x.want {
+			t.Error(i, got)
+		}
+	}
+}
+
+func TestKnown(t *testing.T) {
+	for i, x := range []struct {
+		in     api.Span
+		others []api.Span
+		want   uint8
+	}{
+		{of(2, 5), []api.Span{of(2, 5)}, api.KnownYes}, {of(2, 5), []api.Span{of(3, 3)}, api.KnownYes}, {of(2, 5), []api.Span{of(1, 2)}, api.KnownOpen}, {of(2, 5), []api.Span{of(5, 6)}, api.KnownOpen}, {of(2, 5), []api.Span{of(0, 9)}, api.KnownOpen}, {of(2, 5), []api.Span{of(0, 1)}, api.KnownNo}, {of(2, 5), []api.Span{of(6, 9)}, api.KnownNo}, {of(0, -1), []api.Span{of(0, 0)}, api.KnownNo},
+		{of(2, 5), []api.Span{of(2, 3), of(5, 5)}, api.KnownYes}, {of(2, 5), []api.Span{of(0, 1), of(6, 7)}, api.KnownNo}, {of(2, 5), []api.Span{of(0, 1), of(2, 2)}, api.KnownOpen}, {of(2, 5), []api.Span{of(2, 2), of(0, 1)}, api.KnownOpen}, {of(2, 5), []api.Span{of(2, 2), of(1, 3)}, api.KnownOpen}, {of(2, 5), []api.Span{of(0, 1), of(1, 3)}, api.KnownOpen},
+		{of(math.MinInt, math.MaxInt), []api.Span{of(math.MinInt, math.MaxInt)}, api.KnownYes}, {of(math.MinInt, 0), []api.Span{of(1, math.MaxInt)}, api.KnownNo},
+	} {
+		if got := span.Known(x.in, x.others...); got != x.want {
+			t.Error(i, got)
+		}
+	}
+}

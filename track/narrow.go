@@ -5,6 +5,7 @@ import (
 	"slices"
 
 	"kreisel/api"
+	"kreisel/list"
 )
 
 // gaps is by how much each mark may be behind each other one at most: gaps[i][j] is by how much j is behind i. It is below 0 where j is surely before i.
@@ -33,7 +34,7 @@ func Useless(t api.Track, m []api.Measure) ([]int, api.Errno) {
 	if e != api.OK {
 		return nil, e
 	}
-	return pick(m, func(i int, _ api.Measure) bool {
+	return list.Pick(m, func(i int, _ api.Measure) bool {
 		// Fewer measures than some that truths agree with cannot contradict each other.
 		rest, _ := Narrow(t, without(m, i))
 		return slices.Equal(rest.Stretches, all.Stretches)

@@ -5,6 +5,7 @@ import (
 	"slices"
 
 	"kreisel/api"
+	"kreisel/list"
 	"kreisel/span"
 )
 
@@ -39,7 +40,7 @@ func Place(t api.Track, at int) ([]int, api.Errno) {
 	}
 	marks := course{t}.places()
 	// Behind the run is what is not before the last mark; there is no next one.
-	return pick(marks, func(i int, mark api.Span) bool {
+	return list.Pick(marks, func(i int, mark api.Span) bool {
 		return mark.Lo <= at && (i+1 == len(marks) || at < marks[i+1].Hi)
 	}), api.OK
 }
@@ -66,7 +67,7 @@ func Steepest(t api.Track) ([]int, api.Errno) {
 	if e := Check(t); e != api.OK {
 		return nil, e
 	}
-	return pick(t.Stretches, func(i int, s api.Stretch) bool {
+	return list.Pick(t.Stretches, func(i int, s api.Stretch) bool {
 		// A stretch is steepest where it falls most on the least length, and all others the other way round.
 		for k, other := range t.Stretches {
 			if k != i && s.Fall.Hi*other.Long.Hi < other.Fall.Lo*s.Long.Lo {
