@@ -11,3 +11,14 @@ func Pick[T any](list []T, so func(i int, thing T) bool) []int {
 	}
 	return picked
 }
+
+// Count returns of how many things of a list something is so.
+func Count[T any](list []T, so func(thing T) bool) int {
+	count := 0
+	for _, thing := range list {
+		if so(thing) {
+			count++
+		}
+	}
+	return count
+}

@@ -24,3 +24,21 @@ func TestPick(t *testing.T) {
 		}
 	}
 }
+
+func TestCount(t *testing.T) {
+	for i, x := range []struct {
+		list []string
+		so   func(thing string) bool
+		want int
+	}{
+		{nil, func(string) bool { return true }, 0},
+		{[]string{"a", "b", "a"}, func(string) bool { return true }, 3},
+		{[]string{"a", "b", "a"}, func(string) bool { return false }, 0},
+		{[]string{"a", "b", "a"}, func(thing string) bool { return thing == "a" }, 2},
+		{[]string{"b"}, func(thing string) bool { return thing == "a" }, 0},
+	} {
+		if got := list.Count(x.list, x.so); got != x.want {
+			t.Error(i, got)
+		}
+	}
+}
