@@ -64,19 +64,9 @@ func checkPlan(c api.Cover, plan [][]int) api.Errno {
 		return api.ErrPlan
 	}
 	for hour, list := range plan {
-		if len(list) > (coat{c}).hands(hour) || !chosen(list, len(c.Beds)) {
+		if len(list) > (coat{c}).hands(hour) || !span.Rising(span.Indices(c.Beds), list...) {
 			return api.ErrPlan
 		}
 	}
 	return api.OK
-}
-
-// chosen tells whether a list is one of some of so many stretches, in increasing order.
-func chosen(list []int, stretches int) bool {
-	for i, stretch := range list {
-		if !span.Within(span.UpTo(stretches-1), stretch) || i > 0 && list[i-1] >= stretch {
-			return false
-		}
-	}
-	return true
 }

@@ -42,3 +42,33 @@ func TestCount(t *testing.T) {
 		}
 	}
 }
+
+func TestFirst(t *testing.T) {
+	for i, x := range []struct {
+		list []string
+		want string
+	}{
+		{[]string{"b"}, "b"}, {[]string{"b", "a", "c"}, "a"}, {[]string{"c", "b", "a"}, "a"}, {[]string{"a", "b"}, "a"},
+	} {
+		if got := list.First(x.list, func(a, b string) bool { return a < b }); got != x.want {
+			t.Error(i, got)
+		}
+	}
+	// Of several that none is before, the first one.
+	if got := list.First([]string{"bb", "a", "c"}, func(a, b string) bool { return len(a) < len(b) }); got != "a" {
+		t.Error(got)
+	}
+}
+
+func TestFewer(t *testing.T) {
+	for i, x := range []struct {
+		a, b []int
+		want bool
+	}{
+		{nil, nil, false}, {nil, []int{0}, true}, {[]int{0}, nil, false}, {[]int{9}, []int{1, 2}, true}, {[]int{1, 2}, []int{9}, false}, {[]int{1, 5}, []int{2, 3}, true}, {[]int{2, 3}, []int{1, 5}, false}, {[]int{1, 3}, []int{1, 5}, true}, {[]int{1, 5}, []int{1, 5}, false},
+	} {
+		if got := list.Fewer(x.a, x.b); got != x.want {
+			t.Error(i, got)
+		}
+	}
+}

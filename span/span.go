@@ -25,6 +25,16 @@ func Within(s api.Span, numbers ...int) bool {
 	return true
 }
 
+// Rising tells whether all numbers are in a span, in increasing order, no one twice.
+func Rising(s api.Span, numbers ...int) bool {
+	for i, n := range numbers {
+		if !Within(s, n) || i > 0 && numbers[i-1] >= n {
+			return false
+		}
+	}
+	return true
+}
+
 // Fits tells whether a span has its ends in order, and both of them in another span.
 func Fits(s, in api.Span) bool { return s.Lo <= s.Hi && Within(in, s.Lo, s.Hi) }
 

@@ -24,6 +24,20 @@ func TestWithin(t *testing.T) {
 	}
 }
 
+func TestRising(t *testing.T) {
+	for i, x := range []struct {
+		s       api.Span
+		numbers []int
+		want    bool
+	}{
+		{of(2, 5), nil, true}, {of(2, 5), []int{2}, true}, {of(2, 5), []int{2, 3, 5}, true}, {of(2, 5), []int{1, 3}, false}, {of(2, 5), []int{3, 6}, false}, {of(2, 5), []int{3, 3}, false}, {of(2, 5), []int{3, 2}, false}, {of(2, 5), []int{2, 4, 3}, false}, {of(2, 5), []int{2, 9, 4}, false}, {of(0, -1), nil, true}, {of(0, -1), []int{0}, false}, {of(0, 9), []int{math.MinInt, 3}, false}, {of(0, 9), []int{3, math.MaxInt}, false},
+	} {
+		if got := span.Rising(x.s, x.numbers...); got != x.want {
+			t.Error(i, got)
+		}
+	}
+}
+
 func TestFits(t *testing.T) {
 	for i, x := range []struct {
 		s, in api.Span
